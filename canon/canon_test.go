@@ -41,6 +41,10 @@ func TestP8_2Codes(t *testing.T) {
 	if !slices.Equal(codes, []uint32{0b010, 0b110, 0, 0b001, 0b101, 0b011, 0b00, 0b0111, 0b1111}) || e != api.OK {
 		t.Errorf("%b, %d", codes, e)
 	}
+	codes, e = Codes([]int{15, 1, 2, 3, 4, 5, 6, 7, 8, 9, 10, 11, 12, 13, 14, 15})
+	if codes[0] != 1<<14-1 || codes[15] != 1<<15-1 || codes[14] != 1<<13-1 || codes[1] != 0 || e != api.OK {
+		t.Errorf("%b, %d", codes, e)
+	}
 	for _, lens := range [][]int{nil, {0}, {1}, {0, 0, 5}, {2, 2}} {
 		codes, e := Codes(lens)
 		if len(codes) != len(lens) || e != api.OK || slices.ContainsFunc(codes[:min(1, len(codes))], func(c uint32) bool { return c != 0 }) {

@@ -142,6 +142,45 @@ func TestP15_2Hash(t *testing.T) {
 	}
 }
 
+// Nor do they if one of the bytes is the same.
+func TestP15_2SameHash(t *testing.T) {
+	data := make([]byte, 100000)
+	rand.New(rand.NewSource(6)).Read(data)
+	all := New(data)
+	last := map[uint32]int{}
+	var found [4]int
+	for i := 0; i+3 <= len(data); i++ {
+		k, is := last[all.hash(i)]
+		last[all.hash(i)] = i
+		a, b := data[i:i+3], data[k:k+3]
+		if !is || bytes.Equal(a, b) {
+			continue
+		}
+		same := 3
+		for n := range 3 {
+			if a[n] == b[n] {
+				same = n
+			}
+		}
+		if found[same]++; found[same] > 20 {
+			continue
+		}
+		f := New(bytes.Join([][]byte{a, b, a}, nil))
+		f.Learn(6)
+		if n, d := f.Longest(6, 1); n != 3 || d != 6 {
+			t.Fatalf("% x, % x: %d, %d", a, b, n, d)
+		}
+		if n, d := f.Longest(3, 9); n != 0 || d != 0 {
+			t.Fatalf("% x, % x: %d, %d", a, b, n, d)
+		}
+	}
+	for n, times := range found {
+		if times < 20 {
+			t.Errorf("%d pairs with the same byte %d", times, n)
+		}
+	}
+}
+
 func TestP15_3(t *testing.T) {
 	rnd := rand.New(rand.NewSource(16))
 	data := make([]byte, 50000)

@@ -19,6 +19,15 @@ func noise(seed int64, n int) []byte {
 	return b
 }
 
+// mixed has several pieces in one batch, the later ones stored.
+func mixed() []byte {
+	b := noise(10, 16000)
+	for i := range 8000 {
+		b[i] = "abcdefghijklmnop"[b[i]>>4]
+	}
+	return b
+}
+
 func samples() [][]byte {
 	text := []byte(strings.Repeat("how much wood would a woodchuck chuck if a woodchuck could chuck wood? ", 900))
 	rnd := rand.New(rand.NewSource(20))
@@ -27,7 +36,7 @@ func samples() [][]byte {
 	}
 	return [][]byte{
 		nil, []byte("a"), []byte("abcabcabc"), noise(1, 100), noise(2, 16383), noise(3, 16384), noise(4, 16385), noise(5, 50000),
-		text, bytes.Repeat(noise(6, 30000), 3), make([]byte, 70000),
+		text, bytes.Repeat(noise(6, 30000), 3), make([]byte, 70000), mixed(),
 	}
 }
 

@@ -41,6 +41,7 @@ func TestP47_1Order(t *testing.T) {
 		{"", "", ""}, {"abc", "abc", ""}, {"abc", "cab", "5c"}, {"", "ab", "1a 1b"}, {"ab", "", "2a 2b"}, {"abc", "axc", "2b 1x"}, {"abc", "bx", "2a 2c 1x"},
 		{"ab", "ba", "5a"}, {"abc", "cba", "5b 5a"}, {"abcd", "badc", "5a 5c"}, {"abcdef", "defabc", "5a 5b 5c"}, {"abcdef", "cdabef", "5a 5b"}, {"abcd", "cdab", "5a 5b"}, {"abcd", "xdcbay", "1x 5c 5b 5a 1y"},
 		{"abcde", "ebcda", "5e 5a"}, {"abcd", "bdac", "5a 5c"}, {"abcd", "cadb", "5a 5b"},
+		{"abc", "xcab", "1x 5c"}, {"abc", "cxayb", "5c 1x 1y"},
 	}
 	for _, c := range cases {
 		if got := told(Entries(entries(c.was), entries(c.now))); got != c.want {

@@ -132,6 +132,18 @@ func TestP48_1Wrong(t *testing.T) {
 		z, _ := Zlib(data, level)
 		wrong(t, z, data, Unzlib, 2, 4)
 	}
+	g, _ := Gzip(data, 6)
+	z, _ := Zlib(data, 6)
+	for _, b := range [][]byte{g[10:], g[2:], slices.Concat(g, g[10:])} {
+		if got, e := Gunzip(b, 1000); got != nil || e == api.OK {
+			t.Error("blocks without a head are unpacked")
+		}
+	}
+	for _, b := range [][]byte{z[2:], z[1:]} {
+		if got, e := Unzlib(b, 1000); got != nil || e == api.OK {
+			t.Error("blocks without a head are unpacked")
+		}
+	}
 	var other bytes.Buffer
 	w := gzip.NewWriter(&other)
 	w.Name = "named"

@@ -76,10 +76,8 @@ func (m *Machine) readDistance() bool {
 	if m.length > m.room() {
 		return m.fail(api.ErrLimit)
 	}
-	b, e := m.back.Copy(dist, m.length)
-	if e != api.OK {
-		return m.fail(e)
-	}
+	// Neither the distance nor the length can be wrong any more.
+	b, _ := m.back.Copy(dist, m.length)
 	m.out = append(m.out, b...)
 	m.state = atSymbol
 	return true

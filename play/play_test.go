@@ -177,6 +177,7 @@ func TestP41_2(t *testing.T) {
 		pull 6 1000000 = yes 227
 		pull 6 10 = error 7
 		pull 5 90 = no 90
+		export 5 0 0 = error 6
 	`)
 	if b, is := w.Exported(5); b != nil || is {
 		t.Error("an export that is not complete")
@@ -203,6 +204,20 @@ func TestP41_2(t *testing.T) {
 	b, _ := w.Exported(5)
 	if names, e := strict.Names(b); !slices.Equal(names, []string{"a", "b"}) || e != api.OK {
 		t.Errorf("the last export: %q, %d", names, e)
+	}
+}
+
+// What others pull is not what Do pulled.
+func TestP41_2Others(t *testing.T) {
+	w := begin(t)
+	do(t, w, "export 5 0 0 = ok\n pull 5 10 = no 10")
+	w.Spool().Pull(5, 1000)
+	if _, is := w.Exported(5); is {
+		t.Error("Do did not complete it")
+	}
+	do(t, w, "export 5 0 0 = ok\n pull 5 1000 = yes 22")
+	if b, _ := w.Exported(5); len(b) != 22 {
+		t.Errorf("%d bytes", len(b))
 	}
 }
 

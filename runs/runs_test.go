@@ -86,6 +86,8 @@ func TestP11_2Unpack(t *testing.T) {
 		want []int
 		e    api.Errno
 	}{
+		// A run that is wrong is not passed over.
+		{[]Run{{19, 0}, {1, 0}}, 1, nil, api.ErrLens}, {[]Run{{16, 0}, {1, 0}}, 1, nil, api.ErrLens}, {[]Run{{1, 0}, {18, 0}}, 1, nil, api.ErrLens},
 		{nil, 0, nil, api.OK}, {nil, 1, nil, api.ErrLens}, {nil, -1, nil, api.ErrLens},
 		{[]Run{{3, 0}, {16, 1}, {17, 0}}, 8, []int{3, 3, 3, 3, 3, 0, 0, 0}, api.OK},
 		{[]Run{{3, 0}, {16, 1}, {17, 0}}, 7, nil, api.ErrLens},

@@ -179,6 +179,18 @@ func TestP36_2Full(t *testing.T) {
 			t.Errorf("level %d: the bytes are others", level)
 		}
 	}
+	one, none := begin(t, 0, 0, plenty)
+	one.Write([]byte("a"))
+	for range 3 {
+		if is, e := one.Step(); !is || e != api.ErrFull || !one.Busy() {
+			t.Errorf("a single byte: %v, %d", is, e)
+		}
+	}
+	one.Write([]byte("b"))
+	none.Resize(1)
+	if is, e := one.Step(); !is || e != api.OK || one.Waiting() != 1 {
+		t.Errorf("a single byte: %v, %d", is, e)
+	}
 	// An open session whose bytes are packed, but not stored, is busy.
 	x, s := begin(t, 2, 0, plenty)
 	x.Write([]byte("abc"))

@@ -88,6 +88,12 @@ func TestP21_2Take(t *testing.T) {
 	if s.Free() != 2 || s.Largest() != 1 {
 		t.Error("Free, Largest")
 	}
+	if x, e := s.Take(1); x != (Span{2, 1}) || e != api.OK {
+		t.Errorf("Take(1): %v, %d", x, e)
+	}
+	if n := s.Next(9, 1); n != 1 || s.Free() != 0 {
+		t.Errorf("Next(9, 1): %d", n)
+	}
 }
 
 func TestP21_2Some(t *testing.T) {

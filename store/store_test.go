@@ -9,6 +9,7 @@ import (
 	"testing"
 
 	"punnet/api"
+	"punnet/spans"
 )
 
 func TestP24_1(t *testing.T) {
@@ -203,6 +204,12 @@ func TestP24_3Sound(t *testing.T) {
 		t.Error("a store is not Sound")
 	}
 	s.space.Give(s.heaps[id].List()[0])
+	s.space.Take(10)
+	s.space.Give(s.heaps[id].List()[0])
+	s.space.Give(spans.Span{At: 6, Len: 4})
+	if s.Sound() {
+		t.Error("bytes are free and in a heap, and as many are neither")
+	}
 	if s.Sound() {
 		t.Error("a byte is free and in a heap")
 	}

@@ -53,6 +53,9 @@ func TestP35_2(t *testing.T) {
 	}
 	r.Ready(7)
 	r.Ready(8)
+	if most, fewest := r.Spread(); most != 0 || fewest != 0 {
+		t.Errorf("Spread without turns: %d, %d", most, fewest)
+	}
 	if id, e := r.Pick(1); id != 8 || e != api.OK || !slices.Equal(r.List(), []int{7, 8}) {
 		t.Errorf("Pick(1): %d, %d, %v", id, e, r.List())
 	}
@@ -85,6 +88,14 @@ func TestP35_2(t *testing.T) {
 	r.Ready(8)
 	if most, _ := r.Spread(); most != 4 || r.Turns(8) != 4 {
 		t.Error("the turns of one that is ready again")
+	}
+	for _, id := range r.List() {
+		if e := r.Stop(id); e != api.OK {
+			t.Errorf("Stop of the first one: %d", e)
+		}
+	}
+	if most, fewest := r.Spread(); most != 0 || fewest != 0 || r.All() != 9 {
+		t.Errorf("Spread when all have stopped: %d, %d", most, fewest)
 	}
 }
 
