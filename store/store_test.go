@@ -197,25 +197,24 @@ func TestP24_3Resize(t *testing.T) {
 }
 
 func TestP24_3Sound(t *testing.T) {
-	s, _ := New(10)
-	id := s.Open()
-	s.Append(id, []byte("abc"))
-	if !s.Sound() {
-		t.Error("a store is not Sound")
+	// The heap has the bytes 0 to 2 of 10.
+	cases := []struct {
+		free []spans.Span
+		want bool
+	}{
+		{[]spans.Span{{At: 3, Len: 7}}, true}, {[]spans.Span{{At: 0, Len: 10}}, false}, {[]spans.Span{{At: 2, Len: 8}}, false},
+		{[]spans.Span{{At: 4, Len: 6}}, false}, {nil, false}, {[]spans.Span{{At: 0, Len: 3}, {At: 6, Len: 4}}, false}, {[]spans.Span{{At: 3, Len: 3}, {At: 7, Len: 3}}, false},
 	}
-	s.space.Give(s.heaps[id].List()[0])
-	s.space.Take(10)
-	s.space.Give(s.heaps[id].List()[0])
-	s.space.Give(spans.Span{At: 6, Len: 4})
-	if s.Sound() {
-		t.Error("bytes are free and in a heap, and as many are neither")
-	}
-	if s.Sound() {
-		t.Error("a byte is free and in a heap")
-	}
-	s.space.Take(4)
-	if s.Sound() {
-		t.Error("a byte is neither free nor in a heap")
+	for i, c := range cases {
+		s, _ := New(10)
+		s.Append(s.Open(), []byte("abc"))
+		s.space.Some(7)
+		for _, x := range c.free {
+			s.space.Give(x)
+		}
+		if s.Sound() != c.want {
+			t.Errorf("case %d: %v", i, s.Sound())
+		}
 	}
 }
 
