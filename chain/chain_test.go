@@ -56,6 +56,16 @@ func TestP22_1(t *testing.T) {
 	}
 }
 
+func TestP1AnySpans(t *testing.T) {
+	for _, first := range []int{-1, math.MinInt, math.MaxInt} {
+		c := Of(at(first, 3), at(first, math.MaxInt))
+		c.Append(at(first, 5))
+		c.Locate(1, math.MaxInt)
+		c.Cut(2)
+		Apart(math.MinInt, c, c)
+	}
+}
+
 func TestP22_1Places(t *testing.T) {
 	c := Of(at(0, 3), at(9, 1), at(5, 2))
 	seq := c.Places()
