@@ -1,10 +1,11 @@
-package alpha
+package alpha_test
 
 import (
 	"math"
 	"slices"
 	"testing"
 
+	. "punnet/alpha"
 	"punnet/canon"
 )
 

@@ -1,10 +1,12 @@
-package bitin
+package bitin_test
 
 import (
 	"bytes"
 	"math"
 	"math/rand"
 	"testing"
+
+	. "punnet/bitin"
 )
 
 func fed(b ...byte) *Reader {

@@ -1,4 +1,4 @@
-package bitout
+package bitout_test
 
 import (
 	"bytes"
@@ -7,6 +7,7 @@ import (
 	"testing"
 
 	"punnet/bitin"
+	. "punnet/bitout"
 )
 
 func TestP6_1Put(t *testing.T) {

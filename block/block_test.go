@@ -1,4 +1,4 @@
-package block
+package block_test
 
 import (
 	"bytes"
@@ -13,6 +13,7 @@ import (
 	"punnet/alpha"
 	"punnet/api"
 	"punnet/bitout"
+	. "punnet/block"
 	"punnet/count"
 	"punnet/inflate"
 	"punnet/lazy"

@@ -1,4 +1,4 @@
-package build
+package build_test
 
 import (
 	"archive/zip"
@@ -12,6 +12,7 @@ import (
 	"testing"
 
 	"punnet/api"
+	. "punnet/build"
 	"punnet/central"
 	"punnet/crc"
 	"punnet/deflate"

@@ -1,4 +1,4 @@
-package central
+package central_test
 
 import (
 	"bytes"
@@ -9,6 +9,7 @@ import (
 	"testing"
 
 	"punnet/api"
+	. "punnet/central"
 	"punnet/local"
 	"punnet/octet"
 	"punnet/trap"

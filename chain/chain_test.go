@@ -1,4 +1,4 @@
-package chain
+package chain_test
 
 import (
 	"math"
@@ -7,6 +7,7 @@ import (
 	"testing"
 
 	"punnet/api"
+	. "punnet/chain"
 	"punnet/spans"
 )
 

@@ -1,4 +1,4 @@
-package compact
+package compact_test
 
 import (
 	"bytes"
@@ -8,6 +8,7 @@ import (
 	"testing"
 
 	"punnet/chain"
+	. "punnet/compact"
 	"punnet/spans"
 )
 

@@ -1,4 +1,4 @@
-package count
+package count_test
 
 import (
 	"math"
@@ -8,6 +8,7 @@ import (
 
 	"punnet/alpha"
 	"punnet/api"
+	. "punnet/count"
 	"punnet/lengths"
 	"punnet/token"
 )

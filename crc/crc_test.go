@@ -1,10 +1,12 @@
-package crc
+package crc_test
 
 import (
 	"hash/crc32"
 	"math"
 	"math/rand"
 	"testing"
+
+	. "punnet/crc"
 )
 
 func noise(seed int64, n int) []byte {

@@ -1,4 +1,4 @@
-package decode
+package decode_test
 
 import (
 	"math"
@@ -9,6 +9,7 @@ import (
 	"punnet/bitin"
 	"punnet/bitout"
 	"punnet/canon"
+	. "punnet/decode"
 	"punnet/lengths"
 )
 

@@ -1,4 +1,4 @@
-package deflate
+package deflate_test
 
 import (
 	"bytes"
@@ -10,6 +10,7 @@ import (
 	"testing"
 
 	"punnet/api"
+	. "punnet/deflate"
 	"punnet/inflate"
 )
 

@@ -1,4 +1,4 @@
-package desc
+package desc_test
 
 import (
 	"bytes"
@@ -9,6 +9,7 @@ import (
 	"testing"
 
 	"punnet/api"
+	. "punnet/desc"
 	"punnet/octet"
 	"punnet/trap"
 )

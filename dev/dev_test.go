@@ -1,4 +1,4 @@
-package dev
+package dev_test
 
 import (
 	"bytes"
@@ -7,6 +7,7 @@ import (
 	"testing"
 
 	"punnet/api"
+	. "punnet/dev"
 )
 
 func all(t *testing.T, d *Device) []byte {

@@ -1,4 +1,4 @@
-package dos
+package dos_test
 
 import (
 	"math"
@@ -6,6 +6,7 @@ import (
 	"time"
 
 	"punnet/api"
+	. "punnet/dos"
 )
 
 func TestP25_1Days(t *testing.T) {

@@ -1,4 +1,4 @@
-package export
+package export_test
 
 import (
 	"bytes"
@@ -12,6 +12,7 @@ import (
 	"punnet/build"
 	"punnet/crc"
 	"punnet/deflate"
+	. "punnet/export"
 	"punnet/snap"
 	"punnet/store"
 	"punnet/strict"

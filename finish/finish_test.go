@@ -1,4 +1,4 @@
-package finish
+package finish_test
 
 import (
 	"bytes"
@@ -9,6 +9,7 @@ import (
 	"testing"
 
 	"punnet/api"
+	. "punnet/finish"
 )
 
 const most = 1<<32 - 2

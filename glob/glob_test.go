@@ -1,4 +1,4 @@
-package glob
+package glob_test
 
 import (
 	"math/rand"
@@ -8,6 +8,7 @@ import (
 	"testing"
 
 	"punnet/api"
+	. "punnet/glob"
 )
 
 func sign(c rune) Part { return Part{Kind: Sign, Sign: c} }

@@ -1,4 +1,4 @@
-package gz
+package gz_test
 
 import (
 	"bytes"
@@ -14,6 +14,7 @@ import (
 
 	"punnet/api"
 	"punnet/deflate"
+	. "punnet/gz"
 )
 
 func noise(n int) []byte {

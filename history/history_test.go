@@ -1,4 +1,4 @@
-package history
+package history_test
 
 import (
 	"math/rand"
@@ -8,6 +8,7 @@ import (
 
 	"punnet/api"
 	"punnet/export"
+	. "punnet/history"
 	"punnet/quota"
 	"punnet/session"
 	"punnet/spool"

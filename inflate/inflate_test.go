@@ -1,4 +1,4 @@
-package inflate
+package inflate_test
 
 import (
 	"bytes"
@@ -12,6 +12,7 @@ import (
 	"punnet/api"
 	"punnet/bitout"
 	"punnet/canon"
+	. "punnet/inflate"
 )
 
 // pack compresses with another implementation.

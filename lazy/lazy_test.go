@@ -1,4 +1,4 @@
-package lazy
+package lazy_test
 
 import (
 	"bytes"
@@ -10,6 +10,7 @@ import (
 
 	"punnet/api"
 	"punnet/chains"
+	. "punnet/lazy"
 	"punnet/token"
 )
 

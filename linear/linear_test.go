@@ -1,4 +1,4 @@
-package linear
+package linear_test
 
 import (
 	"math/rand"
@@ -6,6 +6,7 @@ import (
 	"testing"
 
 	"punnet/api"
+	. "punnet/linear"
 )
 
 func put(name string, told bool, begin, end int) Call {

@@ -1,4 +1,4 @@
-package listing
+package listing_test
 
 import (
 	"math"
@@ -10,6 +10,7 @@ import (
 
 	"punnet/api"
 	"punnet/dos"
+	. "punnet/listing"
 	"punnet/name"
 	"punnet/ratio"
 	"punnet/table"

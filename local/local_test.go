@@ -1,4 +1,4 @@
-package local
+package local_test
 
 import (
 	"bytes"
@@ -9,6 +9,7 @@ import (
 	"testing"
 
 	"punnet/api"
+	. "punnet/local"
 	"punnet/octet"
 	"punnet/trap"
 )

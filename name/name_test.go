@@ -1,4 +1,4 @@
-package name
+package name_test
 
 import (
 	"math/rand"
@@ -8,6 +8,7 @@ import (
 	"unicode/utf8"
 
 	"punnet/api"
+	. "punnet/name"
 )
 
 func TestP26_1ASCII(t *testing.T) {

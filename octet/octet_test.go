@@ -1,4 +1,4 @@
-package octet
+package octet_test
 
 import (
 	"bytes"
@@ -7,6 +7,7 @@ import (
 	"testing"
 
 	"punnet/api"
+	. "punnet/octet"
 	"punnet/trap"
 )
 

@@ -1,4 +1,4 @@
-package op
+package op_test
 
 import (
 	"bytes"
@@ -11,6 +11,7 @@ import (
 	"testing"
 
 	"punnet/api"
+	. "punnet/op"
 )
 
 var when = api.Time{Year: 2024, Month: 5, Day: 6, Hour: 7, Minute: 8, Sec: 10}

@@ -1,4 +1,4 @@
-package play
+package play_test
 
 import (
 	"encoding/hex"
@@ -10,6 +10,7 @@ import (
 	"punnet/api"
 	"punnet/build"
 	"punnet/op"
+	. "punnet/play"
 	"punnet/quota"
 	"punnet/spool"
 	"punnet/strict"

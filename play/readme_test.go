@@ -1,4 +1,4 @@
-package play
+package play_test
 
 import (
 	"os"
@@ -6,6 +6,7 @@ import (
 	"testing"
 
 	"punnet/api"
+	. "punnet/play"
 	"punnet/quota"
 	"punnet/spool"
 )

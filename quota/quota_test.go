@@ -1,4 +1,4 @@
-package quota
+package quota_test
 
 import (
 	"math"
@@ -6,6 +6,7 @@ import (
 	"testing"
 
 	"punnet/api"
+	. "punnet/quota"
 )
 
 func TestP34_1Right(t *testing.T) {

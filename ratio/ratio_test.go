@@ -1,10 +1,12 @@
-package ratio
+package ratio_test
 
 import (
 	"math"
 	"math/rand"
 	"slices"
 	"testing"
+
+	. "punnet/ratio"
 )
 
 var (

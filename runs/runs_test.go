@@ -1,4 +1,4 @@
-package runs
+package runs_test
 
 import (
 	"math"
@@ -7,6 +7,7 @@ import (
 	"testing"
 
 	"punnet/api"
+	. "punnet/runs"
 )
 
 func TestP11_1Bits(t *testing.T) {

@@ -1,4 +1,4 @@
-package session
+package session_test
 
 import (
 	"bytes"
@@ -11,6 +11,7 @@ import (
 	"punnet/crc"
 	"punnet/inflate"
 	"punnet/quota"
+	. "punnet/session"
 	"punnet/store"
 )
 

@@ -1,4 +1,4 @@
-package snap
+package snap_test
 
 import (
 	"bytes"
@@ -11,6 +11,7 @@ import (
 	"punnet/build"
 	"punnet/crc"
 	"punnet/deflate"
+	. "punnet/snap"
 	"punnet/store"
 	"punnet/table"
 )

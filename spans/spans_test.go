@@ -1,4 +1,4 @@
-package spans
+package spans_test
 
 import (
 	"math"
@@ -7,6 +7,7 @@ import (
 	"testing"
 
 	"punnet/api"
+	. "punnet/spans"
 )
 
 func list(t *testing.T, s *Space, want ...Span) {

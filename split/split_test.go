@@ -1,4 +1,4 @@
-package split
+package split_test
 
 import (
 	"math"
@@ -9,6 +9,7 @@ import (
 	"punnet/api"
 	"punnet/block"
 	"punnet/lazy"
+	. "punnet/split"
 	"punnet/token"
 )
 

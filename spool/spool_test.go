@@ -1,4 +1,4 @@
-package spool
+package spool_test
 
 import (
 	"bytes"
@@ -13,6 +13,7 @@ import (
 	"punnet/export"
 	"punnet/quota"
 	"punnet/session"
+	. "punnet/spool"
 	"punnet/strict"
 )
 

@@ -1,4 +1,4 @@
-package store
+package store_test
 
 import (
 	"bytes"
@@ -9,7 +9,7 @@ import (
 	"testing"
 
 	"punnet/api"
-	"punnet/spans"
+	. "punnet/store"
 )
 
 func TestP24_1(t *testing.T) {
@@ -197,23 +197,23 @@ func TestP24_3Resize(t *testing.T) {
 }
 
 func TestP24_3Sound(t *testing.T) {
-	// The heap has the bytes 0 to 2 of 10.
-	cases := []struct {
-		free []spans.Span
-		want bool
-	}{
-		{[]spans.Span{{At: 3, Len: 7}}, true}, {[]spans.Span{{At: 0, Len: 10}}, false}, {[]spans.Span{{At: 2, Len: 8}}, false},
-		{[]spans.Span{{At: 4, Len: 6}}, false}, {nil, false}, {[]spans.Span{{At: 0, Len: 3}, {At: 6, Len: 4}}, false}, {[]spans.Span{{At: 3, Len: 3}, {At: 7, Len: 3}}, false},
-	}
-	for i, c := range cases {
-		s, _ := New(10)
-		s.Append(s.Open(), []byte("abc"))
-		s.space.Some(7)
-		for _, x := range c.free {
-			s.space.Give(x)
+	for _, size := range []int{0, 1, 5} {
+		s, _ := New(size)
+		if !s.Sound() {
+			t.Errorf("a store of %d bytes is not Sound", size)
 		}
-		if s.Sound() != c.want {
-			t.Errorf("case %d: %v", i, s.Sound())
+		id, other := s.Open(), s.Open()
+		for range size {
+			s.Append(id, []byte("a"))
+			if !s.Sound() {
+				t.Errorf("a store of %d bytes with %d in a heap is not Sound", size, s.Live())
+			}
+		}
+		s.Cut(id, size/2)
+		s.Append(other, []byte("b"))
+		s.Drop(id)
+		if !s.Sound() {
+			t.Errorf("a store of %d bytes with a hole is not Sound", size)
 		}
 	}
 }

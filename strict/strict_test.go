@@ -1,4 +1,4 @@
-package strict
+package strict_test
 
 import (
 	"archive/zip"
@@ -16,6 +16,7 @@ import (
 	"punnet/desc"
 	"punnet/finish"
 	"punnet/local"
+	. "punnet/strict"
 )
 
 var when = api.Time{Year: 2024, Month: 5, Day: 6, Hour: 7, Minute: 8, Sec: 10}

@@ -1,4 +1,4 @@
-package table
+package table_test
 
 import (
 	"math"
@@ -7,6 +7,7 @@ import (
 	"testing"
 
 	"punnet/api"
+	. "punnet/table"
 )
 
 func row(name string, n int) Row {

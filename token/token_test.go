@@ -1,4 +1,4 @@
-package token
+package token_test
 
 import (
 	"bytes"
@@ -8,6 +8,7 @@ import (
 	"testing"
 
 	"punnet/api"
+	. "punnet/token"
 )
 
 func TestP14_1(t *testing.T) {

@@ -1,4 +1,4 @@
-package trap
+package trap_test
 
 import (
 	"errors"
@@ -6,6 +6,7 @@ import (
 	"testing"
 
 	"punnet/api"
+	. "punnet/trap"
 )
 
 // thrown returns what f panics with, nil if it returns.

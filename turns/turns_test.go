@@ -1,4 +1,4 @@
-package turns
+package turns_test
 
 import (
 	"math"
@@ -7,6 +7,7 @@ import (
 	"testing"
 
 	"punnet/api"
+	. "punnet/turns"
 )
 
 func TestP35_1(t *testing.T) {

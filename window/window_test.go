@@ -1,4 +1,4 @@
-package window
+package window_test
 
 import (
 	"bytes"
@@ -7,6 +7,7 @@ import (
 	"testing"
 
 	"punnet/api"
+	. "punnet/window"
 )
 
 func TestP12_1Empty(t *testing.T) {
